@@ -12,15 +12,15 @@ type part interface {
 	order(other part) int
 }
 
-// number is a part of digits alone. It is kept as its digits without needless
+// numberPart is a part of digits alone. It is kept as its digits without needless
 // zeros, as it may be of any size: so the one with more digits is the greater.
-type number string
+type numberPart string
 
-// word is any other part, also one without anything in it.
-type word string
+// wordPart is any other part, also one without anything in it.
+type wordPart string
 
-func (n number) order(other part) int {
-	o, ok := other.(number)
+func (n numberPart) order(other part) int {
+	o, ok := other.(numberPart)
 	if !ok {
 		return -1
 	}
@@ -30,8 +30,8 @@ func (n number) order(other part) int {
 	return cmp.Compare(n, o)
 }
 
-func (w word) order(other part) int {
-	o, ok := other.(word)
+func (w wordPart) order(other part) int {
+	o, ok := other.(wordPart)
 	if !ok {
 		return 1
 	}
@@ -40,9 +40,9 @@ func (w word) order(other part) int {
 
 func partOf(text string) part {
 	if isDigits(text) {
-		return number(strings.TrimLeft(text, "0"))
+		return numberPart(strings.TrimLeft(text, "0"))
 	}
-	return word(text)
+	return wordPart(text)
 }
 
 // comparePre compares by the parts behind -, from the first one on.
