@@ -3,6 +3,8 @@ package ver
 import (
 	"cmp"
 	"strings"
+
+	"pantry/scan"
 )
 
 // part is what stands between two dots of Pre: a number or a word.
@@ -39,7 +41,7 @@ func (w wordPart) order(other part) int {
 }
 
 func partOf(text string) part {
-	if isDigits(text) {
+	if scan.IsDigits(text) {
 		return numberPart(strings.TrimLeft(text, "0"))
 	}
 	return wordPart(text)
